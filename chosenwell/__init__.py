@@ -1,0 +1,1 @@
+"""Chosen well: a few things chosen for which a function comes to as much as can be."""
