@@ -39,6 +39,35 @@ def brings(s):
     return [5, s]
 
 
+def better(s):
+    return [6, s]
+
+
+def settle(s):
+    return [7, s]
+
+
+def spend(b, prices):
+    return [8, b, len(prices)] + list(prices)
+
+
+def greedily(b, prices):
+    return [9, b, len(prices)] + list(prices)
+
+
+def three(b, prices):
+    return [10, b, len(prices)] + list(prices)
+
+
+def curve():
+    return [11]
+
+
+def apart(*weights):
+    """Each thing brings its own weight, whatever else is there."""
+    return cover(len(weights), [number for at, weight in enumerate(weights) for number in (weight, 1 << at)])
+
+
 def each_answer(*calls):
     """What is answered of each call of one line, a list a call."""
     given = answers([number for call in calls for number in call])

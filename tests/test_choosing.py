@@ -1,6 +1,6 @@
-"""What the calls best and greed answer."""
+"""What the calls best, greed and curve answer."""
 
-from tests.lines import GREATEST, LineTest, best, cover, greed, tell
+from tests.lines import GREATEST, LineTest, apart, best, cover, curve, greed, tell
 
 SEEN = cover(3, [3, 1, 2, 5, 3, 2, 2, 6])
 # 1 and 2 bring as much as one another; so do 3 and 4 when one of these is there.
@@ -78,3 +78,19 @@ class Greed(LineTest):
     def test_what_brings_nothing_is_taken_too(self):
         self.assert_last([NOTHING, greed(2)], [0, 3, 1, 2])
         self.assert_last([NOTHING, greed(GREATEST)], [0, 7, 1, 2, 3])
+
+
+class Curve(LineTest):
+    def test_greed_and_the_best_differ(self):
+        function = cover(3, [4, 1, 3, 5, 3, 6, 4, 2, 2, 4])
+        self.assert_last([function, curve()], [0, 0, 8, 8, 14, 12, 16, 16])
+
+    def test_every_number_of_things(self):
+        self.assert_last([tell([0, 7]), curve()], [0, 0, 7, 7])
+        self.assert_last([apart(2, 3), curve()], [0, 0, 3, 3, 5, 5])
+        self.assert_last([SEEN, curve()], [0, 0, 5, 5, 10, 10, 10, 10])
+        self.assert_last([ALIKE, curve()], [0, 0, 5, 5, 9, 9, 9, 9, 9, 9])
+        self.assert_last([apart(1, 5, 2, 4, 3), curve()], [0, 0, 5, 5, 9, 9, 12, 12, 14, 14, 15, 15])
+
+    def test_where_nothing_brings_anything(self):
+        self.assert_last([NOTHING, curve()], [0] * 8)

@@ -2,8 +2,10 @@
 
 import itertools
 import unittest
+from fractions import Fraction
 
-from tests.lines import GREATEST, best, bound, brings, cover, each_answer, greed, tell
+from tests.lines import (GREATEST, best, better, bound, brings, cover, curve, each_answer, greed, greedily, settle,
+                         spend, tell, three)
 
 
 def members(s):
@@ -33,10 +35,12 @@ class Plain:
                         return False
         return True
 
-    def best(self, k):
-        few = [things for things in self.value if len(things) <= k]
-        things = min(few, key=lambda things: (-self.value[things], number_of(things)))
+    def best_of(self, some):
+        things = min(some, key=lambda things: (-self.value[things], number_of(things)))
         return [self.value[things], number_of(things)]
+
+    def best(self, k):
+        return self.best_of([things for things in self.value if len(things) <= k])
 
     def greed(self, k):
         order = []
@@ -56,6 +60,43 @@ class Plain:
         outside = sorted(self.all - members(s))
         return [len(outside)] + [n for thing in outside for n in (thing, self.gain(members(s), thing))]
 
+    def better(self, s):
+        things = members(s)
+        pairs = itertools.product(things, self.all - things)
+        changes = [[goes, comes, self.value[things - {goes} | {comes}]] for goes, comes in pairs]
+        return min([change for change in changes if change[2] > self.value[things]], default=[-3])
+
+    def settle(self, s):
+        change, changes = self.better(s), []
+        while change != [-3]:
+            changes.append(change[:2])
+            s = number_of(members(s) - {change[0]} | {change[1]})
+            change = self.better(s)
+        return [self.value[members(s)], s, len(changes)] + [thing for pair in changes for thing in pair]
+
+    def paid(self, b, prices):
+        return [things for things in self.value if sum(prices[thing - 1] for thing in things) <= b]
+
+    def spend(self, b, prices):
+        return self.best_of(self.paid(b, prices))
+
+    def made_from(self, things, b, prices):
+        while True:
+            parts = [(-Fraction(self.gain(things, thing), prices[thing - 1]), thing) for thing in self.all - things
+                     if things | {thing} in self.paid(b, prices)]
+            if not parts:
+                return things
+            things = things | {min(parts)[1]}
+
+    def greedily(self, b, prices):
+        return self.best_of([self.made_from(frozenset(), b, prices)])
+
+    def three(self, b, prices):
+        return self.best_of([self.made_from(things, b, prices) for things in self.paid(b, prices) if len(things) < 4])
+
+    def curve(self):
+        return [n for k in range(len(self.all) + 1) for n in (self.best(k)[0], self.greed(k)[0])]
+
 
 class Steps:
     """Numbers that look like chance and are the same every time."""
@@ -74,6 +115,17 @@ def covered(n, points):
 
 
 class Definitions(unittest.TestCase):
+    def check_prices(self, n, call, values, steps):
+        plain = Plain(n, values)
+        highest = (3, 9, 1000)[steps.below(3)]
+        prices = [1 + steps.below(highest) for thing in range(n)]
+        total = sum(prices)
+        asked, expected = [call, curve()], [[n] + values, plain.curve()]
+        for b in (0, 1, steps.below(total), steps.below(total), steps.below(total), total - 1, total, GREATEST):
+            asked += [spend(b, prices), greedily(b, prices), three(b, prices)]
+            expected += [plain.spend(b, prices), plain.greedily(b, prices), plain.three(b, prices)]
+        self.assertEqual(each_answer(*asked), expected, (call, prices))
+
     def check_function(self, n, call, values):
         plain = Plain(n, values)
         asked, expected = [call], [[n] + values]
@@ -83,9 +135,11 @@ class Definitions(unittest.TestCase):
         self.assertEqual(each_answer(*asked), expected)
         for s in range(2 ** n):
             ks = (0, 1, 2, n, GREATEST)
-            asked = [call, brings(s)] + [bound(k, s) for k in ks]
-            expected = [[n] + values, plain.brings(s)] + [plain.bound(k, s) for k in ks]
+            asked = [call, brings(s), better(s), settle(s)] + [bound(k, s) for k in ks]
+            expected = [[n] + values, plain.brings(s), plain.better(s), plain.settle(s)]
+            expected += [plain.bound(k, s) for k in ks]
             self.assertEqual(each_answer(*asked), expected)
+        self.check_prices(n, call, values, Steps(sum(values)))
 
     def check_told(self, n, values):
         if Plain(n, values).is_as_told():
