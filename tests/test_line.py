@@ -93,6 +93,8 @@ class Line(unittest.TestCase):
         self.assertEqual(each_answer(*[five] * 30), [[5] + [0] * 32] * 30)
 
     def test_as_many_numbers_as_thirty_calls_may_have(self):
+        self.assertEqual(len(cover(5, [1, 1] * 25) * 30), 1590)
+        self.assertEqual(each_answer(*[cover(5, [1, 1] * 25)] * 30), [[-1]] * 30)
         self.assertEqual(each_answer(*[cover(5, [1, 1] * 25)] * 29, curve()), [[-1]] * 29 + [[0, 0, 0, 0]])
         longest = [apart(1, 2, 3, 4, 5)] + [cover(5, [1, 1] * 25)] * 28 + [settle(1)]
         self.assertEqual(each_answer(*longest)[1:], [[-1]] * 28 + [[5, 16, 4, 1, 2, 2, 3, 3, 4, 4, 5]])
